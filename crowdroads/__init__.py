@@ -1,0 +1,1 @@
+"""Crowdroads: roads that slow when many go."""
