@@ -49,6 +49,10 @@ def is_from_nought(thing):
     return is_fraction(thing) and thing[0] >= 0
 
 
+def is_above_nought(thing):
+    return is_fraction(thing) and thing[0] > 0
+
+
 def sum_of(one, other):
     return lowest(one[0] * other[1] + other[0] * one[1], one[1] * other[1])
 
@@ -69,3 +73,19 @@ def part_of(one, other):
 
 def is_less(one, other):
     return one[0] * other[1] < other[0] * one[1]
+
+
+def sum_of_all(amounts):
+    whole = NOUGHT
+    for amount in amounts:
+        whole = sum_of(whole, amount)
+    return whole
+
+
+def least_of(amounts):
+    """The least of one or more fractions."""
+    least = amounts[0]
+    for amount in amounts:
+        if is_less(amount, least):
+            least = amount
+    return least

@@ -20,6 +20,8 @@ WORDS = (
     "namedtuple NamedTuple TypedDict TYPE_CHECKING abstractmethod"
 ).split()
 UNUSED = "register mro elements open input version_info with_traceback add_note format format_map".split()
+WALKED = "zip enumerate reversed range items keys values".split()
+WALKERS = "list tuple dict sorted sum any all enumerate zip min max join".split()
 DUNDERS = ("__init__", "__eq__", "__repr__", "__str__", "__len__")
 NODES = (
     "Module Import ImportFrom alias FunctionDef ClassDef Lambda arguments arg Return Assign AugAssign For While If "
@@ -33,7 +35,7 @@ NODES = (
 def faults_of(text):
     """Pairs (rule, line) of what is outside the rules in a file's text."""
     tree = ast.parse(text)
-    found = faults_of_text(text) + faults_of_top(tree)
+    found = faults_of_text(text) + faults_of_top(tree) + faults_of_locals(tree) + faults_of_walks(tree)
     for node in ast.walk(tree):
         found += [(rule, getattr(node, "lineno", 0)) for rule in faults_of_node(node)]
     return sorted(found + faults_of_names(tree))
@@ -194,6 +196,37 @@ def faults_of_names(tree):
             if node.func.attr in dir_of_values() and node.func.attr not in METHODS:
                 found.append(("L25", node.lineno))
     return found
+
+
+def faults_of_locals(tree):
+    """Parameters and locals that are called like a class or an import of their file."""
+    taken = [node.name for node in tree.body if isinstance(node, ast.ClassDef)]
+    for node in tree.body:
+        if isinstance(node, ast.ImportFrom):
+            taken += [alias.asname or alias.name for alias in node.names]
+    found = []
+    for node in ast.walk(tree):
+        if isinstance(node, ast.arg) and node.arg in taken:
+            found.append(("L15", node.lineno))
+        if isinstance(node, ast.Name) and isinstance(node.ctx, ast.Store) and node.id in taken:
+            found.append(("L15", node.lineno))
+    return found
+
+
+def faults_of_walks(tree):
+    """Walks that are kept in the place of being walked on the spot."""
+    on_the_spot = []
+    for node in ast.walk(tree):
+        if isinstance(node, (ast.For, ast.comprehension)):
+            on_the_spot.append(node.iter)
+        if isinstance(node, ast.Call) and called_name(node) in WALKERS:
+            on_the_spot += node.args
+    calls = [node for node in ast.walk(tree) if isinstance(node, ast.Call) and called_name(node) in WALKED]
+    return [("L23", node.lineno) for node in calls if node not in on_the_spot]
+
+
+def called_name(node):
+    return getattr(node.func, "id", getattr(node.func, "attr", ""))
 
 
 def dir_of_values():

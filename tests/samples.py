@@ -50,10 +50,26 @@ def no_fractions():
     ]
 
 
-def refusal_of(deed):
-    """The class of the error that a deed ends with; None where it ends without one."""
+def whole(*numbers):
+    """A list of whole numbers, written as fractions."""
+    return [(number, 1) for number in numbers]
+
+
+def changed(row, place, thing):
+    """A list or a tuple with another thing at a place."""
+    return row[:place] + type(row)([thing]) + row[place + 1:]
+
+
+def error_of(deed):
+    """The error that a deed ends with; None where it ends without one."""
     try:
         deed()
     except Exception as error:
-        return type(error)
+        return error
     return None
+
+
+def refusal_of(deed):
+    """The class of the error that a deed ends with; None where it ends without one."""
+    error = error_of(deed)
+    return None if error is None else type(error)

@@ -3,15 +3,11 @@ import unittest
 
 from crowdroads.errors import NoNet
 from crowdroads.nets import made_net
-from samples import Odd, no_fractions, no_truths, no_wholes, refusal_of
+from samples import Odd, changed, no_fractions, no_truths, no_wholes, refusal_of
 
 GREAT = 10 ** 60 - 1
 ROAD = (0, 1, (1, 2), (3, 1), False)
 LANE = (1, 0, (0, 1), (0, 1), True)
-
-
-def changed(road, place, thing):
-    return road[:place] + (thing,) + road[place + 1:]
 
 
 class MadeNetTest(unittest.TestCase):
