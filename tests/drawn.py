@@ -74,9 +74,9 @@ def plain_ways(net, wish):
     return sorted(found)
 
 
-def drawn_ring(draw, net, lane):
-    """A ring come upon by wandering about; None where the wandering comes to an end."""
-    here = draw.randrange(net[0])
+def drawn_ring(draw, net, lane, here=None):
+    """A ring come upon by wandering about, from here or from anywhere; None where the wandering comes to an end."""
+    here = draw.randrange(net[0]) if here is None else here
     passed = [here]
     row = []
     while True:

@@ -17,6 +17,10 @@ FUNCTIONS = {
         "roads_over(net, wishes, share, times=None)",
     ),
     "apart": ("told_apart(net, wish, flow)", "without_rings(net, wish, flow)"),
+    "rest": ("resting_share(net, wishes)",),
+    "least": (
+        "least_share(net, wishes)", "toll_list(net, wishes)", "tolled_net(net, tolls)", "four_thirds(net, wishes)",
+    ),
 }
 
 
