@@ -9,12 +9,13 @@ MOST_ROADS = 12
 THINGS_OF_ROAD = 5
 
 
-def is_place(many, thing):
+def is_number_of(many, thing):
+    """Whether a thing is the number of one of so many, numbered from 0."""
     return is_whole(thing) and 0 <= thing < many
 
 
 def are_unlike_places(many, start, end):
-    return is_place(many, start) and is_place(many, end) and start != end
+    return is_number_of(many, start) and is_number_of(many, end) and start != end
 
 
 def road_fault(many, road):

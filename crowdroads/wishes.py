@@ -68,15 +68,19 @@ def check_forms(net, wishes):
             raise NoWish(f"wish {number}: {fault}")
 
 
-def check_ways(net, wishes):
-    count = 0
+def ways_of_each(net, wishes):
+    """The ways of each wish, in order; NoWay of the first that has none."""
+    found = []
     for number, wish in enumerate(wishes):
         ways = ways_of(net, wish)
         if ways == []:
             raise NoWay(number, places_reached(net, wish))
-        count = count + len(ways)
-    # Not within the loop: a later wish without a way is refused ahead of too many ways.
-    if count > MOST_WAYS:
+        found.append(ways)
+    return found
+
+
+def check_ways(net, wishes):
+    if sum([len(ways) for ways in ways_of_each(net, wishes)]) > MOST_WAYS:
         raise TooMany("all wishes together have more than ten ways")
 
 

@@ -60,6 +60,13 @@ def changed(row, place, thing):
     return row[:place] + type(row)([thing]) + row[place + 1:]
 
 
+def lists_in(thing):
+    """All lists that a thing holds, itself among them where it is one."""
+    if not isinstance(thing, (list, tuple)):
+        return []
+    return [thing] * isinstance(thing, list) + [row for part in thing for row in lists_in(part)]
+
+
 def error_of(deed):
     """The error that a deed ends with; None where it ends without one."""
     try:

@@ -2,7 +2,10 @@ import importlib
 import inspect
 import unittest
 
-# For each module the functions that the document names, with their arguments.
+from crowdroads.crowd import Crowd
+from crowdroads.moods import Hasty, Keen, Wary
+
+# For each module the functions and classes that the document names, with their arguments.
 FUNCTIONS = {
     "fractions": (
         "fraction(top, bottom)", "is_fraction(thing)", "sum_of(one, other)", "rest_of(one, other)",
@@ -21,6 +24,24 @@ FUNCTIONS = {
     "least": (
         "least_share(net, wishes)", "toll_list(net, wishes)", "tolled_net(net, tolls)", "four_thirds(net, wishes)",
     ),
+    "moods": ("Keen()", "Hasty()", "Wary()"),
+    "crowd": ("Crowd(net, travellers, steps=None)",),
+    "works": (
+        "opened_net(net, road)", "closed_net(net, number)", "widened_net(net, number, by)",
+        "times_compared(net, other, wishes)",
+    ),
+    "texts": ("read_net(text)", "net_text(net, wishes)"),
+}
+
+# For each class the methods that the document names.
+METHODS = {
+    Keen: ("pick(gains)",),
+    Hasty: ("pick(gains)",),
+    Wary: ("pick(gains)",),
+    Crowd: (
+        "ways(traveller)", "taken()", "go(traveller, number)", "time_of(traveller)", "gains(traveller)", "told()",
+        "whole()", "rests()", "settle(mood=None)",
+    ),
 }
 
 
@@ -33,6 +54,20 @@ class InterfaceTest(unittest.TestCase):
                 name = row.partition("(")[0]
                 told = getattr(importlib.import_module(f"crowdroads.{module}"), name)
                 self.assertEqual(name + str(inspect.signature(told)), row)
+
+    def test_methods(self):
+        things = (Keen(), Hasty(), Wary(), Crowd((2, [(0, 1, (0, 1), (1, 1), False)]), [(0, 1, False)]))
+        for thing in things:
+            for row in METHODS[type(thing)]:
+                name = row.partition("(")[0]
+                self.assertEqual(name + str(inspect.signature(getattr(thing, name))), row)
+
+    def test_arguments_by_their_names(self):
+        crowd = Crowd(net=(2, [(0, 1, (0, 1), (1, 1), False)]), travellers=[(0, 1, False)], steps=[(0, 1, (2, 1))])
+        self.assertEqual(crowd.settle(mood=None), [])
+        self.assertIsNone(crowd.go(traveller=0, number=0))
+        self.assertEqual(crowd.time_of(traveller=0), (3, 1))
+        self.assertEqual(Wary().pick(gains=[(2, 1), (1, 1)]), 1)
 
 
 if __name__ == "__main__":

@@ -4,7 +4,7 @@ import re
 import unittest
 
 import crowdroads
-from language_rules import PACKAGE, faults_of
+from language_rules import PACKAGE, dir_of_values, faults_of
 
 FOLDER = pathlib.Path(crowdroads.__file__).parent
 
@@ -57,6 +57,19 @@ def defined_in(path):
     return found + [node.targets[0].id for node in nodes if isinstance(node, ast.Assign)]
 
 
+def methods_and_values(texts):
+    """The names of all methods in some files' texts, and of all values that are set on an object."""
+    methods = []
+    values = []
+    for text in texts:
+        for node in ast.walk(ast.parse(text)):
+            if isinstance(node, ast.ClassDef):
+                methods += [part.name for part in node.body if isinstance(part, ast.FunctionDef)]
+            if isinstance(node, ast.Attribute) and isinstance(node.ctx, ast.Store):
+                values.append(node.attr)
+    return set(methods), set(values)
+
+
 class LanguageTest(unittest.TestCase):
     """The package keeps to ../shared/LANGUAGE.md, as far as a look at its files tells."""
 
@@ -81,6 +94,12 @@ class LanguageTest(unittest.TestCase):
         for path in sources():
             for module, names in drawn_from(path):
                 self.assertLessEqual(set(names), set(defined_in(FOLDER / f"{module}.py")), path.name)
+
+    def test_no_name_is_both_a_method_and_a_value(self):
+        methods, values = methods_and_values([path.read_text() for path in sources()])
+        self.assertTrue({"pick", "settle"} <= methods and {"reached", "part"} <= values)
+        self.assertEqual(methods & values, set())
+        self.assertEqual((methods | values) & set(dir_of_values()) - {"__init__"}, set())
 
     def test_no_two_files_draw_from_one_another(self):
         left = {path.stem: [module for module, names in drawn_from(path)] for path in sources()}

@@ -16,7 +16,7 @@ from crowdroads.rest import resting_share
 from drawn import values, written
 from handmade import ACROSS, FREE, GROWS, LANE, NOUGHT, ONE, RINGS, STAYS, STEPS, road, wish
 from limits import within
-from samples import Odd, changed, no_fractions, refusal_of, whole
+from samples import Odd, changed, lists_in, no_fractions, refusal_of, whole
 
 STYLES = (noughts, few, small, great)
 # One road that grows beside one that doesn't: with 1 going, rest is as far from the least sum as it can be.
@@ -292,11 +292,6 @@ class BelongingTest(unittest.TestCase):
         tolls = toll_list(net, wishes)
         return [least_share(net, wishes), tolls, tolled_net(net, tolls), four_thirds(net, wishes)]
 
-    def lists_in(self, thing):
-        if not isinstance(thing, (list, tuple)):
-            return []
-        return [thing] * isinstance(thing, list) + [row for part in thing for row in self.lists_in(part)]
-
     def test_kinds(self):
         for net, wishes in drawn_carried(351, 40, small):
             best, tolls, tolled, (rest, other, rows, lag) = self.asked(net, wishes)
@@ -327,7 +322,7 @@ class BelongingTest(unittest.TestCase):
         first = self.asked(net, wishes)
         kept = copy.deepcopy(first)
         second = self.asked(net, wishes)
-        rows = self.lists_in(first)
+        rows = lists_in(first)
         self.assertEqual(len({id(row) for row in rows}), len(rows))
         for row in rows:
             row.append(None)
